@@ -1,4 +1,4 @@
-"""The lacings of a shoe: how many there are, what each is like, which are the shortest."""
+"""The lacings of a shoe: how many there are, what each is like, which are the best of them."""
 
 # The calls' numbers in the list that is handed in.
 SHOE = 0
@@ -7,11 +7,17 @@ MEND = 2
 IS = 3
 LOOK = 4
 SHORTEST = 5
+MOST = 6
+FLATTEST = 7
+EVEN = 8
+WHICH = 9
+MIRROR = 10
 
 # What a call answers alone when it refuses.
 NOT_A_SHOE = -1
 NOT_A_LACING = -1
 NO_SUCH_EYELET = -2
+NO_SUCH_PLACE = -3
 TORN_ALREADY = -4
 NO_LACING = -6
 NOT_TORN = -9
@@ -137,6 +143,10 @@ def pieces_across(lacing):
     return [left_and_right_row(piece) for piece in pieces(lacing) if is_across(piece[0], piece[1])]
 
 
+def pull_count(lacing):
+    return len(pieces_across(lacing))
+
+
 def crossing_count(lacing):
     joined = pieces_across(lacing)
     crossings = 0
@@ -155,6 +165,10 @@ def eyelet_beside(eyelet):
 
 def in_mirror(lacing):
     return [eyelet_beside(eyelet) for eyelet in reversed(lacing)]
+
+
+def is_even(lacing):
+    return in_mirror(lacing) == lacing
 
 
 def is_shoe(n, lengths):
@@ -195,16 +209,53 @@ def answer_is(shoe, row):
 def answer_look(shoe, row):
     if not is_lacing(shoe, row):
         return [NOT_A_LACING]
-    even = 1 if in_mirror(row) == row else 0
-    return [lacing_length(shoe, row), len(pieces_across(row)), crossing_count(row), even]
+    return [lacing_length(shoe, row), pull_count(row), crossing_count(row), 1 if is_even(row) else 0]
+
+
+def best_and_first(lacings, marks, best):
+    """The best mark, how many of the lacings have it, and the first of these."""
+    return [best, marks.count(best)] + lacings[marks.index(best)]
 
 
 def answer_shortest(shoe):
     if len(shoe.laced) == 0:
         return [NO_LACING]
     lengths = [lacing_length(shoe, lacing) for lacing in shoe.laced]
-    least = min(lengths)
-    return [least, lengths.count(least)] + shoe.laced[lengths.index(least)]
+    return best_and_first(shoe.laced, lengths, min(lengths))
+
+
+def answer_most(shoe, length):
+    short = [lacing for lacing in shoe.laced if lacing_length(shoe, lacing) <= length]
+    if len(short) == 0:
+        return [NO_LACING]
+    pulls = [pull_count(lacing) for lacing in short]
+    return best_and_first(short, pulls, max(pulls))
+
+
+def answer_flattest(shoe):
+    if len(shoe.laced) == 0:
+        return [NO_LACING]
+    crossings = [crossing_count(lacing) for lacing in shoe.laced]
+    return best_and_first(shoe.laced, crossings, min(crossings))
+
+
+def answer_even(shoe):
+    even = [lacing for lacing in shoe.laced if is_even(lacing)]
+    if len(even) == 0:
+        return [0]
+    return [len(even)] + even[0]
+
+
+def answer_which(shoe, k):
+    if k >= len(shoe.laced):
+        return [NO_SUCH_PLACE]
+    return [0] + shoe.laced[k]
+
+
+def answer_mirror(shoe, row):
+    if not is_lacing(shoe, row):
+        return [NOT_A_LACING]
+    return [0] + in_mirror(row)
 
 
 def answer_call(shoe, reader):
@@ -223,7 +274,17 @@ def answer_call(shoe, reader):
         return answer_look(shoe, reader.take_row())
     if call == SHORTEST:
         return answer_shortest(shoe)
-    raise NotImplementedError(f"there is no call {call}")
+    if call == MOST:
+        return answer_most(shoe, reader.take_number())
+    if call == FLATTEST:
+        return answer_flattest(shoe)
+    if call == EVEN:
+        return answer_even(shoe)
+    if call == WHICH:
+        return answer_which(shoe, reader.take_number())
+    if call == MIRROR:
+        return answer_mirror(shoe, reader.take_row())
+    raise ValueError(f"there is no call {call}")
 
 
 def answers(calls):

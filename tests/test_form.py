@@ -59,10 +59,11 @@ class Form(unittest.TestCase):
 
     def test_names_are_bound_in_the_package_or_allowed(self):
         for name, tree in self.trees.items():
-            bound = {node.id for node in ast.walk(tree) if isinstance(node, ast.Name) and isinstance(node.ctx, ast.Store)}
+            named = [node for node in ast.walk(tree) if isinstance(node, ast.Name)]
+            bound = {node.id for node in named if isinstance(node.ctx, ast.Store)}
             bound |= {node.name for node in ast.walk(tree) if isinstance(node, (ast.FunctionDef, ast.ClassDef))}
             bound |= {node.arg for node in ast.walk(tree) if isinstance(node, ast.arg)}
-            read = {node.id for node in ast.walk(tree) if isinstance(node, ast.Name) and isinstance(node.ctx, ast.Load)}
+            read = {node.id for node in named if isinstance(node.ctx, ast.Load)}
             self.assertEqual(read - bound - BUILTINS, set(), name)
             self.assertEqual([word for word in bound if word.startswith("_") and word != "__init__"], [], name)
 

@@ -2,7 +2,7 @@
 
 import unittest
 
-from tests.helper import LENGTHS, MOST, all_held, ask, every_lacing, every_row, is_, mend, shoe, tear, torn_sets
+from tests.helper import LARGEST, LENGTHS, all_held, ask, every_lacing, every_row, is_, mend, shoe, tear, torn_sets
 
 
 def is_lacing(n, torn, row):
@@ -31,7 +31,7 @@ class Is(unittest.TestCase):
             lacing = every_lacing(n, torn)[-1]
             changed = []
             for place, eyelet in enumerate(lacing):
-                for other in [*range(2 * n + 2), MOST]:
+                for other in [*range(2 * n + 2), LARGEST]:
                     if other != eyelet:
                         changed.append(lacing[:place] + [other] + lacing[place + 1:])
             self.assert_answers(n, torn, [lacing] + changed, [1] + [0] * len(changed))
@@ -41,12 +41,12 @@ class Is(unittest.TestCase):
             lacing = every_lacing(n, torn)[0]
             changed = [lacing[:place] + lacing[place + 1:] for place in range(len(lacing))]
             for place in range(len(lacing) + 1):
-                for other in (0, 1, 2, 3, 6, 2 * n, MOST):
+                for other in (0, 1, 2, 3, 6, 2 * n, LARGEST):
                     changed.append(lacing[:place] + [other] + lacing[place:])
             self.assert_answers(n, torn, changed, [0] * len(changed))
 
     def test_empty_and_longest_rows(self):
-        self.assertEqual(ask(is_([]), is_([0]), is_([1]), is_([0] * 12), is_([MOST] * 12)), [[0]] * 5)
+        self.assertEqual(ask(is_([]), is_([0]), is_([1]), is_([0] * 12), is_([LARGEST] * 12)), [[0]] * 5)
 
     def test_nothing_between_beginning_and_end(self):
         self.assertFalse(is_lacing(2, (), [0, 1]))

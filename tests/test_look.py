@@ -2,7 +2,7 @@
 
 import unittest
 
-from tests.helper import (LENGTHS, MOST, all_held, ask, every_lacing, every_row, expected_look, look, mend, shoe,
+from tests.helper import (LARGEST, LENGTHS, all_held, ask, every_lacing, every_row, expected_look, look, mend, shoe,
                           shortest, tear, torn_sets)
 
 
@@ -55,7 +55,7 @@ class Look(unittest.TestCase):
 class LookRefused(unittest.TestCase):
     def test_rows_that_are_no_lacing(self):
         rows = ([], [0], [0, 1], [1, 0], [0, 2, 3], [2, 3, 1], [0, 2, 2, 1], [0, 2, 4, 1], [1, 2, 3, 0],
-                [0, 2, 1, 3], [0, 2, 3, 1, 1], [0, 2, MOST, 1], [MOST] * 12, [0, 2, 3, 1] * 3)
+                [0, 2, 1, 3], [0, 2, 3, 1, 1], [0, 2, LARGEST, 1], [LARGEST] * 12, [0, 2, 3, 1] * 3)
         for row in rows:
             self.assertEqual(ask(look(row)), [[-1]], row)
 

@@ -2,7 +2,7 @@
 
 import unittest
 
-from tests.helper import LENGTHS, MOST, ask, every_lacing, is_, look, mend, shoe, shortest, tear
+from tests.helper import LARGEST, LENGTHS, ask, every_lacing, is_, look, mend, shoe, shortest, tear
 
 
 class ShoeCounts(unittest.TestCase):
@@ -58,7 +58,7 @@ class ShoeRefused(unittest.TestCase):
         self.assertEqual(with_refusal, ask(*before, *behind), (n, lengths))
 
     def test_wrong_rows(self):
-        for n in (0, 1, 5, 6, MOST):
+        for n in (0, 1, 5, 6, LARGEST):
             for size in (0, 1, 3, 5, 7, 9, 11, 12):
                 self.assert_refused(n, [1] * size)
 
@@ -71,7 +71,7 @@ class ShoeRefused(unittest.TestCase):
     def test_wrong_length_at_each_place(self):
         for n in (2, 3, 4):
             for place in range(2 * n - 1):
-                for wrong in (0, 1001, MOST):
+                for wrong in (0, 1001, LARGEST):
                     lengths = list(LENGTHS[n])
                     lengths[place] = wrong
                     self.assert_refused(n, lengths)

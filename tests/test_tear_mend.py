@@ -2,7 +2,7 @@
 
 import unittest
 
-from tests.helper import LENGTHS, MOST, ask, every_lacing, is_, mend, shoe, shortest, tear, torn_sets
+from tests.helper import LARGEST, LENGTHS, ask, every_lacing, is_, mend, shoe, shortest, tear, torn_sets
 
 
 class TearAndMendCount(unittest.TestCase):
@@ -50,7 +50,7 @@ class TearAndMendCount(unittest.TestCase):
 class TearAndMendRefused(unittest.TestCase):
     def test_eyelets_that_may_not_be_torn(self):
         for n in (2, 3, 4):
-            for eyelet in (0, 1, 2 * n, 2 * n + 1, MOST):
+            for eyelet in (0, 1, 2 * n, 2 * n + 1, LARGEST):
                 told = ask(shoe(n, LENGTHS[n]), tear(eyelet), mend(eyelet))
                 self.assertEqual(told[1:], [[-2], [-2]], (n, eyelet))
 
@@ -81,8 +81,8 @@ class TearAndMendRefused(unittest.TestCase):
     def test_all_is_as_it_was_behind_a_refusal(self):
         before = [shoe(4, LENGTHS[4]), tear(2), tear(7)]
         behind = [shortest(), is_([0, 3, 4, 5, 6, 1]), tear(3), mend(2), shortest()]
-        for call, number in ((tear(0), -2), (tear(1), -2), (tear(8), -2), (tear(MOST), -2), (tear(2), -4),
-                             (mend(0), -2), (mend(1), -2), (mend(8), -2), (mend(MOST), -2), (mend(3), -9)):
+        for call, number in ((tear(0), -2), (tear(1), -2), (tear(8), -2), (tear(LARGEST), -2), (tear(2), -4),
+                             (mend(0), -2), (mend(1), -2), (mend(8), -2), (mend(LARGEST), -2), (mend(3), -9)):
             told = ask(*before, call, *behind)
             self.assertEqual(told.pop(3), [number], call)
             self.assertEqual(told, ask(*before, *behind), call)
